@@ -1,0 +1,1 @@
+"""Nearfind: words found with few slips."""
