@@ -7,44 +7,50 @@ TURNED = 3
 
 
 def cells_of(P, T, prices, free=False):
-    rows = [first_row(T, prices, free)]
-    for classes in range(1, len(P) + 1):
-        rows.append(further_row(rows, P, T, prices, classes))
-    return tuple(rows)
+    columns = [first_column(P, prices)]
+    for signs in range(1, len(T) + 1):
+        columns.append(further_column(columns, P, T[:signs], prices, free))
+    return tuple([row_across(columns, classes) for classes in range(len(P) + 1)])
 
 
 def price_between(P, T, prices):
     return cells_of(P, T, prices)[-1][-1]
 
 
-def first_row(text, prices, free):
-    row = [0]
-    for signs in range(1, len(text) + 1):
-        # Where the begin is free, the stretch without signs is there at each place, at nought.
-        row.append(0 if free else stepped(row[signs - 1], prices[PUT]))
-    return tuple(row)
+def row_across(columns, classes):
+    return tuple([column[classes] for column in columns])
 
 
-def further_row(rows, pattern, text, prices, classes):
-    above = rows[classes - 1]
-    row = [stepped(above[0], prices[LEFT])]
-    for signs in range(1, len(text) + 1):
-        fits = text[signs - 1] in pattern[classes - 1]
-        row.append(lowest([
-            above[signs - 1] if fits else stepped(above[signs - 1], prices[EXCHANGED]),
-            stepped(row[signs - 1], prices[PUT]),
-            stepped(above[signs], prices[LEFT]),
-            stepped(cell_ahead_of_turn(rows, pattern, text, classes, signs), prices[TURNED]),
+def first_column(pattern, prices):
+    column = [0]
+    for classes in range(1, len(pattern) + 1):
+        column.append(stepped(column[classes - 1], prices[LEFT]))
+    return tuple(column)
+
+
+# The column of the whole text, by the columns of the text without its last sign. Of the columns and of the signs only
+# the last two are looked at, so that a machine that reads a text of any length need not keep more.
+def further_column(columns, pattern, text, prices, free):
+    before = columns[-1]
+    # Where the begin is free, the stretch without signs is there at each place, at nought.
+    column = [0 if free else stepped(before[0], prices[PUT])]
+    for classes in range(1, len(pattern) + 1):
+        fits = text[-1] in pattern[classes - 1]
+        column.append(lowest([
+            before[classes - 1] if fits else stepped(before[classes - 1], prices[EXCHANGED]),
+            stepped(before[classes], prices[PUT]),
+            stepped(column[classes - 1], prices[LEFT]),
+            stepped(cell_ahead_of_turn(columns, pattern, text, classes), prices[TURNED]),
         ]))
-    return tuple(row)
+    return tuple(column)
 
 
-def cell_ahead_of_turn(rows, pattern, text, classes, signs):
-    if classes < 2 or signs < 2:
+def cell_ahead_of_turn(columns, pattern, text, classes):
+    if classes < 2 or len(text) < 2:
         return None
-    if text[signs - 2] not in pattern[classes - 1] or text[signs - 1] not in pattern[classes - 2]:
+    if text[-2] not in pattern[classes - 1] or text[-1] not in pattern[classes - 2]:
         return None
-    return rows[classes - 2][signs - 2]
+    return columns[-2][classes - 2]
 
 
 # A price of 0 means that the step is not done, not that it is done for nothing.

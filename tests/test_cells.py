@@ -4,33 +4,9 @@ from random import Random
 
 from nearfind.cells import cells_of, price_between
 from nearfind.patterns import pattern_of, read_pattern
-from tests.slow import cells_by_search, slow_free_price, slow_price
-
-PLAIN = (1, 1, 1, 0)
-TURNING = (1, 1, 1, 1)
-
-# Each price done and not done in every company, and then some that make one step dear or cheap beside the others.
-MANY_PRICES = tuple(product((0, 1), repeat=4)) + (
-    (2, 3, 4, 5), (1, 1, 3, 1), (1, 1, 2, 3), (9, 9, 1, 1), (1, 9, 9, 9), (9, 1, 9, 2), (3, 2, 0, 4), (0, 2, 3, 1),
-    (2, 0, 3, 4), (0, 0, 9, 1), (1, 2, 9, 2), (9, 9, 9, 9),
-)
-
-SMALL_PATTERNS = tuple(product(("a", "b", "ab"), repeat=3)) + (
-    read_pattern("ab[bc]"), read_pattern("a.b"), read_pattern("[ac]ba"), read_pattern("abc"), read_pattern("cab"),
-)
-SMALL_TEXTS = tuple("".join(signs) for signs in product("ab", repeat=4)) + ("abca", "bacb", "cabc", "ccba", "xaby")
-
-
-def some_pattern(random, letters, number):
-    classes = []
-    for place in range(number):
-        size = random.choice((1, 1, 1, 2, len(letters)))
-        classes.append("".join(sorted(random.sample(letters, size))))
-    return tuple(classes)
-
-
-def some_text(random, letters, number):
-    return "".join(random.choice(letters) for place in range(number))
+from tests.slow import (
+    MANY_PRICES, PLAIN, SMALL_PATTERNS, SMALL_TEXTS, TURNING, cells_by_search, slow_free_price, slow_price,
+    some_pattern, some_text)
 
 
 class KnownPrices(unittest.TestCase):
