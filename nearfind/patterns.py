@@ -6,6 +6,7 @@ LETTERS = "abcdefghijklmnopqrstuvwxyz"
 MOST_CLASSES = 40
 NUMBER_OF_PRICES = 4
 HIGHEST_PRICE = 9
+PLAIN_PRICES = (1, 1, 1, 0)
 
 
 def pattern_of(W):

@@ -25,6 +25,11 @@ SMALL_PATTERNS = tuple(product(("a", "b", "ab"), repeat=3)) + (
 SMALL_TEXTS = tuple("".join(signs) for signs in product("ab", repeat=4)) + ("abca", "bacb", "cabc", "ccba", "xaby")
 
 
+def all_words(letters, longest):
+    """Every word of these letters of at most so many, the shortest first."""
+    return tuple("".join(signs) for number in range(longest + 1) for signs in product(letters, repeat=number))
+
+
 def some_pattern(random, letters, number):
     classes = []
     for place in range(number):
@@ -160,3 +165,14 @@ def cells_by_search(pattern, text, prices, free=False):
             if text[j] in pattern[i + 1] and text[j + 1] in pattern[i]:
                 heappush(heap, (price + turned, i + 2, j + 2))
     return tuple(tuple(row) for row in cells)
+
+
+def price_by_search(word, text):
+    """The plain price between a word and a text, for long ones too."""
+    return cells_by_search(tuple(word), text, PLAIN)[-1][-1]
+
+
+def column_by_search(pattern, text, most, prices):
+    """The last cell of each row, with a free begin, None in the place of those above the price."""
+    column = [row[-1] for row in cells_by_search(pattern, text, prices, True)]
+    return tuple(None if cell is None or cell > most else cell for cell in column)

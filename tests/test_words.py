@@ -4,9 +4,10 @@ from random import Random
 
 from nearfind.cells import price_between
 from nearfind.patterns import pattern_of
+from tests.slow import all_words
 
 # All words over two letters of at most four, and some over more.
-WORDS = tuple("".join(signs) for number in range(5) for signs in product("ab", repeat=number)) + (
+WORDS = all_words("ab", 4) + (
     "c", "abc", "acb", "bca", "cab", "cba", "abca", "house", "mouse", "mosue")
 
 ALIKE = ((1, 1, 1, 0), (1, 1, 1, 1), (2, 2, 3, 0), (2, 2, 9, 1), (9, 9, 1, 9), (1, 1, 0, 0), (1, 1, 0, 1), (0, 0, 1, 0),
